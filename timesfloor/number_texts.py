@@ -1,0 +1,41 @@
+"""Numbers as texts, and back again."""
+
+from timesfloor.errors import BadText
+from timesfloor.exact import parts_of
+from timesfloor.numbers import is_number, want_number
+
+MOST_DIGITS = 140
+
+
+def integer_in(word):
+    """The integer that a string is written as; None if it is written as none."""
+    digits = word.removeprefix("-")
+    if not (digits.isascii() and digits.isdigit()) or len(digits) > MOST_DIGITS:
+        return None
+    if digits.startswith("0") and word != "0":
+        return None
+    return int(word)
+
+
+def number_in(word):
+    """The number that a string is written as; None if it is written as none."""
+    if "/" not in word:
+        return integer_in(word)
+    above, _, under = word.partition("/")
+    pair = (integer_in(above), integer_in(under))
+    return pair if is_number(pair) else None
+
+
+def number_text(number):
+    """The text of a number."""
+    want_number(number, "number")
+    above, under = parts_of(number)
+    return str(above) if under == 1 else f"{above}/{under}"
+
+
+def number_of(text):
+    """The number whose text this is."""
+    number = number_in(text) if isinstance(text, str) else None
+    if number is None:
+        raise BadText(0, 0)
+    return number
