@@ -47,3 +47,11 @@ def common_under(numbers):
     for number in numbers:
         common = lcm(common, parts_of(number)[1])
     return common
+
+
+def row_sum(row, point, start):
+    """The sum of the products of a row and a point, place by place, and of a start."""
+    total = start
+    for factor, number in zip(row, point):
+        total = added(total, multiplied(factor, number))
+    return total

@@ -1,0 +1,20 @@
+"""Whether a paper that is shown is just the one that is told."""
+
+from timesfloor.checks import is_integer
+from timesfloor.papers import Paper
+
+
+def is_same(value, told):
+    """Whether a value is what is told, tuples of integers all the way in; True and False are no integers."""
+    if not isinstance(told, tuple):
+        return is_integer(value) and value == told
+    if not isinstance(value, tuple) or len(value) != len(told):
+        return False
+    return all([is_same(item, wanted) for item, wanted in zip(value, told)])
+
+
+def is_told(value, paper):
+    """Whether any value is a paper of the same class, with the same parts."""
+    if not isinstance(value, Paper) or value.__class__.__name__ != paper.__class__.__name__:
+        return False
+    return is_same(value.parts, paper.parts)
