@@ -14,6 +14,14 @@ def raised(call):
     return None
 
 
+def namesakes(paper):
+    """Papers with the word and the parts of a paper, of other classes: one of its name, one below it, its base."""
+    kind = type(paper)
+    base = kind.__bases__[0]
+    return [type(kind.__name__, (base,), {})(paper.word, *paper.parts), type("Below", (kind,), {})(*paper.parts),
+            base(paper.word, *paper.parts)]
+
+
 def steps_of(text):
     """Pairs (expression or statement, expected line or None) of an example with >>> prompts."""
     steps = []

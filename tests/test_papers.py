@@ -5,7 +5,7 @@ from timesfloor.papers import Denial, Paper, fixed
 from timesfloor.runs import Goes, Stops
 
 from tests.examples_machines import PAPERS
-from tests.helpers import Case
+from tests.helpers import Case, namesakes
 
 VALUES = (0, None, True, "text", b"x", 1.5, {"a": [1]}, (), [], (1, [2, (3, [])]), [[[1]]])
 CLASSES = ((Goes, Paper, "goes", ("points",)), (Stops, Denial, "stops", ("step", "point")))
@@ -88,3 +88,16 @@ class PapersTest(Case):
             for value in (None, "a", 1, True, False, (), paper.parts, ("a", 1), [paper], object()):
                 self.assertIs(paper == value, False)
                 self.assertIs(value == paper, False)
+
+    def test_other_classes_of_one_name(self):
+        for kind, _, _, names in CLASSES:
+            paper = kind(*([1], [2])[:len(names)])
+            for other in namesakes(paper):
+                self.assert_same((other.word, other.parts), (paper.word, paper.parts))
+                self.assertIs(paper == other, False, type(other).__bases__)
+                self.assertIs(other == paper, False, type(other).__bases__)
+                self.assertIs(other == other, True)
+                self.assertIs(kind.is_one(other), False)
+            self.assertIs(kind.is_one(paper), True)
+            for value in (None, kind.__name__, paper.parts):
+                self.assertIs(kind.is_one(value), False)

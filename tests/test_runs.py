@@ -9,7 +9,7 @@ from timesfloor.papers import Denial, Paper
 from timesfloor.runs import Goes, Stops, first_run, judged_run, through
 
 from tests.examples_machines import CHECK_RUNS, MACHINES, RUNS
-from tests.helpers import Case
+from tests.helpers import Case, namesakes
 from tests.machines_made import formed, is_held, nested_lists, some_machines, some_point, where_led, worth
 
 FLIP = line_machine([(0, -1, 1), (0, 1, 0), (3, (1, 2), 0)])
@@ -236,6 +236,13 @@ class ShowsRunTest(Case):
         self.check(False, FLIP, [0], [0], look_alike())
         for value in (None, False, Paper("stops", 0, (0,)), Denial("stops", 0, (0,)), Goes(points), (0, (0,))):
             self.check(False, FLIP, [0], [2], value)
+
+    def test_papers_of_other_classes(self):
+        for way in ([0, 0], [0, 2]):
+            told = judged_run(FLIP, [0], way)
+            self.check(True, FLIP, [0], way, told)
+            for value in namesakes(told):
+                self.check(False, FLIP, [0], way, value)
 
     def test_by_name(self):
         self.assertIs(shows_run(value=Goes([[0], [1]]), way=[0], point=[0], machine=FLIP), True)

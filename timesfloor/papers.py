@@ -8,9 +8,17 @@ def fixed(value):
     return value
 
 
+def bears(value, name):
+    """Whether the class of a value has a name."""
+    return value.__class__.__name__ == name
+
+
 def are_alike(paper, other):
     """Whether two papers are of one class, with equal words and parts."""
-    if not isinstance(other, Paper) or paper.__class__.__name__ != other.__class__.__name__:
+    if not isinstance(other, Paper) or not bears(other, paper.__class__.__name__):
+        return False
+    # Two classes may bear one name: then just one of the papers finds that the other one is of its own class.
+    if paper.is_one(other) != other.is_one(paper):
         return False
     return paper.word == other.word and paper.parts == other.parts
 
@@ -28,6 +36,11 @@ class Paper:
     def __eq__(self, other):
         return are_alike(self, other)
 
+    @staticmethod
+    def is_one(value):
+        """Whether a value is a paper; a class of papers tells whether it is made by calling this class."""
+        return isinstance(value, Paper)
+
 
 class Denial(Paper):
     """A paper that says no; it is false."""
@@ -40,3 +53,8 @@ class Denial(Paper):
 
     def __eq__(self, other):
         return are_alike(self, other)
+
+    @staticmethod
+    def is_one(value):
+        """Whether a value is a denial."""
+        return isinstance(value, Denial)

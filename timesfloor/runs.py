@@ -2,7 +2,7 @@
 
 from timesfloor.exact import common_under, made, parts_of
 from timesfloor.machines import want_machine
-from timesfloor.papers import Denial, Paper, fixed
+from timesfloor.papers import Denial, Paper, bears, fixed
 from timesfloor.pieces import piece_holds, piece_leads
 from timesfloor.wants import MOST_STEPS, want_point, want_way, want_within
 
@@ -14,6 +14,11 @@ class Goes(Paper):
         Paper.__init__(self, "goes", points)
         self.points = self.parts[0]
 
+    @staticmethod
+    def is_one(value):
+        """Whether a value is made by calling this class."""
+        return isinstance(value, Goes) and bears(value, "Goes")
+
 
 class Stops(Denial):
     """A point does not go by a way: the first step whose piece does not hold the point that has come to it."""
@@ -22,6 +27,11 @@ class Stops(Denial):
         Denial.__init__(self, "stops", step, point)
         self.step = self.parts[0]
         self.point = self.parts[1]
+
+    @staticmethod
+    def is_one(value):
+        """Whether a value is made by calling this class."""
+        return isinstance(value, Stops) and bears(value, "Stops")
 
 
 def judged_run(machine, point, way):

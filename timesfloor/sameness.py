@@ -1,7 +1,6 @@
 """Whether a paper that is shown is just the one that is told."""
 
 from timesfloor.checks import is_integer
-from timesfloor.papers import Paper
 
 
 def is_same(value, told):
@@ -15,6 +14,4 @@ def is_same(value, told):
 
 def is_told(value, paper):
     """Whether any value is a paper of the same class, with the same parts."""
-    if not isinstance(value, Paper) or value.__class__.__name__ != paper.__class__.__name__:
-        return False
-    return is_same(value.parts, paper.parts)
+    return paper.is_one(value) and is_same(value.parts, paper.parts)
