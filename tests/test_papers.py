@@ -1,6 +1,7 @@
 """Papers [3]."""
 
 from timesfloor import papers
+from timesfloor.floors import Clash, Fits
 from timesfloor.papers import Denial, Paper, fixed
 from timesfloor.runs import Goes, Stops
 
@@ -8,7 +9,8 @@ from tests.examples_machines import PAPERS
 from tests.helpers import Case, namesakes
 
 VALUES = (0, None, True, "text", b"x", 1.5, {"a": [1]}, (), [], (1, [2, (3, [])]), [[[1]]])
-CLASSES = ((Goes, Paper, "goes", ("points",)), (Stops, Denial, "stops", ("step", "point")))
+CLASSES = ((Goes, Paper, "goes", ("points",)), (Stops, Denial, "stops", ("step", "point")),
+           (Fits, Paper, "fits", ("averages",)), (Clash, Denial, "clash", ("row", "place", "part")))
 
 
 class PapersTest(Case):
@@ -56,7 +58,7 @@ class PapersTest(Case):
         for kind, base, word, names in CLASSES:
             self.assertEqual(kind.__bases__, (base,))
             for value in VALUES:
-                values = (value, [value])[:len(names)]
+                values = (value, [value], (1, [value]))[:len(names)]
                 for paper in (kind(*values), kind(**dict(zip(names, values)))):
                     self.assertEqual(paper.word, word)
                     self.assert_same(paper.parts, tuple(fixed(item) for item in values))
@@ -91,7 +93,7 @@ class PapersTest(Case):
 
     def test_other_classes_of_one_name(self):
         for kind, _, _, names in CLASSES:
-            paper = kind(*([1], [2])[:len(names)])
+            paper = kind(*([1], [2], [3])[:len(names)])
             for other in namesakes(paper):
                 self.assert_same((other.word, other.parts), (paper.word, paper.parts))
                 self.assertIs(paper == other, False, type(other).__bases__)

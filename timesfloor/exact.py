@@ -41,6 +41,25 @@ def multiplied(one, other):
     return made(above * factor, under * parted)
 
 
+def is_less(one, other):
+    """Whether one number is worth less than the other."""
+    above, under = parts_of(one)
+    bound, parted = parts_of(other)
+    return above * parted < bound * under
+
+
+def whole_part(number):
+    """The greatest integer that is not above a number."""
+    above, under = parts_of(number)
+    return above // under
+
+
+def times_whole(number, common):
+    """A number times a multiple of what is under it: an integer."""
+    above, under = parts_of(number)
+    return above * (common // under)
+
+
 def common_under(numbers):
     """The least integer from 1 on that makes each of the numbers an integer, as a factor."""
     common = 1

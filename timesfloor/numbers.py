@@ -4,7 +4,7 @@ from math import gcd
 
 from timesfloor.checks import is_integer, is_list, is_within
 from timesfloor.errors import BadFraction, BadNumber
-from timesfloor.exact import added, common_under, made, multiplied, negated, parts_of
+from timesfloor.exact import added, common_under, is_less, made, multiplied, negated, parts_of, whole_part
 
 MOST_ABOVE = 1000000
 MOST_UNDER = 1000
@@ -78,16 +78,13 @@ def is_below(one, other):
     """Whether one number is less than the other."""
     want_number(one, "one")
     want_number(other, "other")
-    above, under = parts_of(one)
-    bound, parted = parts_of(other)
-    return above * parted < bound * under
+    return is_less(one, other)
 
 
 def whole_of(number):
     """The greatest integer that is not above a number."""
     want_number(number, "number")
-    above, under = parts_of(number)
-    return above // under
+    return whole_part(number)
 
 
 def rest_of(number):

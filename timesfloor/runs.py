@@ -1,6 +1,6 @@
 """Runs of machines by ways."""
 
-from timesfloor.exact import common_under, made, parts_of
+from timesfloor.exact import common_under, made, times_whole
 from timesfloor.machines import want_machine
 from timesfloor.papers import Denial, Paper, bears, fixed
 from timesfloor.pieces import piece_holds, piece_leads
@@ -72,20 +72,14 @@ def first_run(machine, point, steps):
     return tuple(way), tuple(points)
 
 
-def whole_times(number, common):
-    """A number times a multiple of what is under it."""
-    above, under = parts_of(number)
-    return above * (common // under)
-
-
 def line_behind(row, start, lines, under, common):
     """The line of one number behind a piece: its factors, and last its shift, as integers.
 
     The lines ahead are to be divided by under, the new one by common times under.
     """
-    factors = [whole_times(number, common) for number in row]
+    factors = [times_whole(number, common) for number in row]
     line = [sum([factor * ahead[place] for factor, ahead in zip(factors, lines)]) for place in range(len(row) + 1)]
-    line[-1] += whole_times(start, common) * under
+    line[-1] += times_whole(start, common) * under
     return line
 
 
