@@ -1,7 +1,10 @@
 """Papers [3]."""
 
 from timesfloor import papers
+from timesfloor.bands import Band, Gap
 from timesfloor.floors import Clash, Fits
+from timesfloor.judged import Dies, Returns, Stays, Unsure
+from timesfloor.nevers import Maybe, Never
 from timesfloor.papers import Denial, Paper, fixed
 from timesfloor.runs import Goes, Stops
 
@@ -10,7 +13,11 @@ from tests.helpers import Case, namesakes
 
 VALUES = (0, None, True, "text", b"x", 1.5, {"a": [1]}, (), [], (1, [2, (3, [])]), [[[1]]])
 CLASSES = ((Goes, Paper, "goes", ("points",)), (Stops, Denial, "stops", ("step", "point")),
-           (Fits, Paper, "fits", ("averages",)), (Clash, Denial, "clash", ("row", "place", "part")))
+           (Fits, Paper, "fits", ("averages",)), (Clash, Denial, "clash", ("row", "place", "part")),
+           (Returns, Paper, "returns", ("number", "way")), (Stays, Paper, "stays", ("stretches",)),
+           (Dies, Denial, "dies", ("steps",)), (Unsure, Denial, "unsure", ("most", "long")),
+           (Never, Paper, "never", ("prime",)), (Maybe, Denial, "maybe", ()),
+           (Band, Paper, "band", ("columns",)), (Gap, Denial, "gap", ("wide",)))
 
 
 class PapersTest(Case):

@@ -80,6 +80,11 @@ def hangs_on(above, tile):
     return fixed(above[3]) == fixed(tile[1])
 
 
+def closes(row):
+    """Whether the right of the last tile of a row is the left of its first one."""
+    return fixed(row[-1][4]) == fixed(row[0][2])
+
+
 def first_clash(machine, block):
     """The first row and place at which a block does not fit, with the part that is off; None if it fits."""
     tiling = Tiling(machine.pieces)
@@ -137,6 +142,6 @@ def offs_of(machine, block):
 def is_round(machine, block):
     """Whether a block that fits comes round."""
     want_fit(machine, block)
-    if not all([fixed(row[-1][4]) == fixed(row[0][2]) for row in block]):
+    if not all([closes(row) for row in block]):
         return False
     return all([hangs_on(last, first) for last, first in zip(block[-1], block[0])])
