@@ -115,6 +115,16 @@ class ColumnsTest(Case):
         for point in numbers_of(machine, told.columns)[2:]:
             self.assertTrue(70 <= worth(point[0]) <= 71)
 
+    def test_one_top_alone(self):
+        """By the first piece just the top 1 leads to a top of another one; below it there is one half of its tiles."""
+        machine = line_machine([(0, 1, 100), (101, 88, 0), (101, 89, 0), (101, 1, 0)])
+        self.assertEqual(len(columns_of(machine, [0, 1])), 88 * 89 // 2)
+        self.assert_raises(("TooMany", "columns", 4000), columns_of, machine, [0, 2])
+        self.assert_same(columns_of(machine, [0, 3]), (((0, (1,), (0,), (101,), (0,)), (3, (101,), (0,), (101,), (0,))),))
+        told = judged_band(machine, [0, 3])
+        self.assertEqual(told.word, "band")
+        self.assert_same(numbers_of(machine, told.columns), ((1,), (101,), (101,)))
+
     def test_carries_come_first(self):
         for function in (columns_of, judged_band):
             for way in ([1], [2, 1], [1, 2], [2, 2, 2, 4], [2] * 399 + [5]):

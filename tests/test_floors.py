@@ -273,6 +273,8 @@ class ShowsBlockTest(Case):
         block = [[still, still, turned], [still, more, None], [more, more, still]]
         right = [(0, 2, "left"), (1, 1, "top"), (1, 2, "tile"), (2, 0, "top")]
         self.assertEqual(clashes(FLIP, block), right)
+        for row, place in ((-1, 0), (0, -1), (-1, -1), (1, 0), (0, 1)):
+            self.check(False, [[None]], Clash(row, place, "tile"))
         for down in range(-1, 4):
             for place in range(-1, 4):
                 for part in ("tile", "left", "top"):

@@ -144,6 +144,13 @@ class LivingTest(Case):
         self.assert_same(living(line_machine([(0, 3, 0), (0, 3, -2), (0, 3, -1)]), 9), ((0, 1),))
         self.assert_same(living(line_machine([(0, 1, 1), (2, 1, 0)]), 2), ((0, 0), (1, 1), (2, 3)))
 
+    def test_stretches_in_others(self):
+        for triples, told in (([(0, 1, 0), (0, 2, (-1, 2))], ((0, 1),)), ([(0, 2, (-1, 2)), (0, 4, (-3, 2))], (((1, 4), (3, 4)),)),
+                              ([(0, 4, (-3, 2)), (0, 8, -3), (0, 4, 0)], ((0, (1, 4)), ((3, 8), (5, 8)))),
+                              ([(0, 4, 0), (0, 2, 0), (0, 4, -1), (0, 8, -7)], ((0, (1, 2)), ((7, 8), 1)))):
+            self.assert_same(living(line_machine(triples), 2), told)
+            self.assert_same(living(line_machine(triples[::-1]), 2), told)
+
     def test_steps(self):
         self.assert_same(living(FLIP, 60), ((0, 1),))
         slow = line_machine([(0, 1, (1, 59))])

@@ -170,7 +170,8 @@ class IsTileTest(Case):
                 for tile in found[:6]:
                     for other in range(len(told)):
                         self.check((other, *tile[1:]) in told[other], machine, (other, *tile[1:]))
-                    self.check(False, machine, (len(told), *tile[1:]))
+                    for other in (len(told), -1, number - len(told), True):
+                        self.check(False, machine, (other, *tile[1:]))
 
     def test_values_of_any_kind(self):
         deep = 0
@@ -213,6 +214,12 @@ class IsTileTest(Case):
                             self.check(tile in told, machine, tile)
                             met.add(tile in told)
         self.assertEqual(met, {True, False})
+
+    def test_tops(self):
+        """By 0 x + 1 a top changes nothing else."""
+        for top in range(-2, 9):
+            self.check(top in (3, 4), line_machine([(3, 0, 1)]), (0, (top,), (0,), (1,), (0,)))
+            self.check(top == 4, line_machine([(3, 1, 0)]), (0, (top,), (0,), (4,), (0,)))
 
     def test_no_bound(self):
         for number in (1, 4, 5):

@@ -102,9 +102,10 @@ def widths_of(ends):
 
 def round_in(ends, entering):
     """The numbers of columns that make a round, one ahead of the next one, where some carries are left over."""
+    # Whatever lies behind carries that are left over is left over, too.
     before = {}
     for number, (left, right) in enumerate(ends):
-        if entering[left] > 0 and entering[right] > 0:
+        if entering[left] > 0:
             before[right] = number
     carries = min(list(before.keys()))
     met = {}

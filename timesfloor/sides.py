@@ -49,19 +49,17 @@ class Side:
         return self.led_to(top) - self.under * bottom
 
     def many_lefts(self, gain):
-        """How many marks stay marks if so much is added."""
-        return max(0, self.many() - abs(gain))
+        """How many marks stay marks if so much is added: a gain between a top and a bottom that can stand."""
+        # Such a gain is never greater than how many carries there are, so this is 0 or more.
+        return self.many() - abs(gain)
 
     def lefts(self, gain):
         """The marks that stay marks if so much is added."""
         return list(range(max(self.least, self.least - gain), min(self.most, self.most - gain) + 1))
 
-    def bottoms(self, top):
-        """The bottoms that some tile has below a top."""
-        led = self.led_to(top)
-        lowest = -((self.many() - 1 - led) // self.under)
-        highest = (led + self.many() - 1) // self.under
-        return list(range(max(lowest, self.lowest), min(highest, self.highest) + 1))
+    def bottoms(self):
+        """The integers that can stand as a bottom."""
+        return list(range(self.lowest, self.highest + 1))
 
     def carry(self, mark):
         """The carry of a mark."""
@@ -117,7 +115,7 @@ def many_with(sides, top):
     """How many tiles have a top."""
     count = 1
     for side in sides:
-        count = count * sum([side.many_lefts(side.gain(top, label)) for label in side.bottoms(top)])
+        count = count * sum([side.many_lefts(side.gain(top, label)) for label in side.bottoms()])
     return count
 
 
@@ -135,7 +133,7 @@ def tiles_below(number, sides, top, bottoms):
 
 def tiles_with(number, sides, top):
     """The tiles of a piece that have a top, by lefts and then rights."""
-    return tiles_below(number, sides, top, all_of([side.bottoms(top) for side in sides]))
+    return tiles_below(number, sides, top, all_of([side.bottoms() for side in sides]))
 
 
 class Tiling:
