@@ -90,6 +90,7 @@ class BlockOfTest(Case):
             self.assert_same(block_of(machine, nested_lists(points[0]), tuple(way), first, 3), block)
             self.assert_same(block_of(many=2, first=first, way=way, point=points[0], machine=machine),
                              tuple(row[:2] for row in block))
+            self.assert_same(block_of(machine, points[0], way, first, 1), tuple(row[:1] for row in block))
             rows.add(len(way))
         self.assertLessEqual({1, 2, 4}, rows)
 
