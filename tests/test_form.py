@@ -57,6 +57,14 @@ def names_of(tree):
             for node in tree.body if isinstance(node, (ast.Assign, *kinds))}
 
 
+def taken_from_tables(tree):
+    """The names that are assigned an item of a table of the module level, to be called."""
+    tables = {node.targets[0].id for node in tree.body if isinstance(node, ast.Assign) and isinstance(node.value, ast.Dict)}
+    return {node.targets[0].id for node in ast.walk(tree)
+            if isinstance(node, ast.Assign) and isinstance(node.targets[0], ast.Name) and isinstance(node.value, ast.Subscript)
+            and ast.unparse(node.value.value) in tables}
+
+
 def imports_of(tree):
     return [node for node in tree.body if isinstance(node, ast.ImportFrom)]
 
@@ -167,13 +175,36 @@ class FormTest(Case):
                if isinstance(node, (ast.FunctionDef, ast.ClassDef))}
 
         def check(source, tree):
-            known = own | BUILTINS | {alias.name for node in imports_of(tree) for alias in node.names}
+            known = own | BUILTINS | {alias.name for node in imports_of(tree) for alias in node.names} | taken_from_tables(tree)
             for call in [node for node in ast.walk(tree) if isinstance(node, ast.Call)]:
                 if isinstance(call.func, ast.Name):
                     self.assertIn(call.func.id, known)
                 else:
                     self.assertIsInstance(call.func, ast.Attribute)
                     self.assertIn(call.func.attr, own | METHODS | DUNDERS)
+        self.check_each(check)
+
+    def test_stars(self):
+        """Behind a star in a call stand only names, and attributes off a name."""
+        def check(source, tree):
+            for call in [node for node in ast.walk(tree) if isinstance(node, ast.Call)]:
+                for arg in call.args:
+                    if isinstance(arg, ast.Starred):
+                        self.assertRegex(ast.unparse(arg.value), r"^[a-z_]+(\.[a-z_]+)*$")
+        self.check_each(check)
+
+    def test_tables(self):
+        """What stands at module level is plain all the way in; lists and dicts contain no list or dict."""
+        def check(source, tree):
+            functions = {node.name for node in tree.body if isinstance(node, ast.FunctionDef)}
+            for node in [node for node in tree.body if isinstance(node, ast.Assign)]:
+                for part in ast.walk(node.value):
+                    self.assertIsInstance(part, (ast.Constant, ast.Tuple, ast.List, ast.Dict, ast.Name, ast.BinOp, ast.operator,
+                                                 ast.UnaryOp, ast.unaryop, ast.expr_context))
+                    if isinstance(part, ast.Name):
+                        self.assertIn(part.id, functions)
+                    if part is not node.value:
+                        self.assertNotIsInstance(part, (ast.List, ast.Dict))
         self.check_each(check)
 
     def test_beside_a_class_that_compares(self):

@@ -2,10 +2,12 @@
 
 from timesfloor import papers
 from timesfloor.bands import Band, Gap
+from timesfloor.courses import Ends, Runs
 from timesfloor.floors import Clash, Fits
 from timesfloor.judged import Dies, Returns, Stays, Unsure
 from timesfloor.nevers import Maybe, Never
 from timesfloor.papers import Denial, Paper, fixed
+from timesfloor.rounds import Round, Straight
 from timesfloor.runs import Goes, Stops
 
 from tests.examples_machines import PAPERS
@@ -17,7 +19,9 @@ CLASSES = ((Goes, Paper, "goes", ("points",)), (Stops, Denial, "stops", ("step",
            (Returns, Paper, "returns", ("number", "way")), (Stays, Paper, "stays", ("stretches",)),
            (Dies, Denial, "dies", ("steps",)), (Unsure, Denial, "unsure", ("most", "long")),
            (Never, Paper, "never", ("prime",)), (Maybe, Denial, "maybe", ()),
-           (Band, Paper, "band", ("columns",)), (Gap, Denial, "gap", ("wide",)))
+           (Band, Paper, "band", ("columns",)), (Gap, Denial, "gap", ("wide",)),
+           (Round, Paper, "round", ("wide", "block")), (Straight, Denial, "straight", ("wide",)),
+           (Runs, Paper, "runs", ("stands",)), (Ends, Denial, "ends", ("ending", "stands")))
 
 
 class PapersTest(Case):

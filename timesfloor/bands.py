@@ -36,8 +36,8 @@ class Gap(Denial):
         return isinstance(value, Gap) and bears(value, "Gap")
 
 
-def columns_of(machine, way):
-    """All columns of a way, in the order of their tiles."""
+def few_columns(machine, way):
+    """The pair (tiling, counts) of a way that has not too many columns."""
     want_machine(machine, "machine")
     want_way(way, len(machine.pieces))
     tiling = Tiling(machine.pieces)
@@ -46,6 +46,12 @@ def columns_of(machine, way):
     counts = counts_down(tiling, way)
     if sum(list(counts[0].values())) > MOST_COLUMNS:
         raise TooMany("columns", MOST_COLUMNS)
+    return tiling, counts
+
+
+def columns_of(machine, way):
+    """All columns of a way, in the order of their tiles."""
+    tiling, counts = few_columns(machine, way)
     return laid_columns(tiling, way, counts)
 
 

@@ -15,4 +15,6 @@ def is_within(value, least, most):
 
 def is_list(value, least, most):
     """Whether a value is a list or a tuple of least to most items, None being no bound."""
-    return isinstance(value, (list, tuple)) and is_within(len(value), least, most)
+    if not isinstance(value, (list, tuple)):
+        return False
+    return (least is None or least <= len(value)) and (most is None or len(value) <= most)

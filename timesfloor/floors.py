@@ -70,19 +70,24 @@ def want_block(machine, block):
         raise BadBlock("block")
 
 
+def are_one(side, other):
+    """Whether two sides of tiles are one, lists being taken for tuples."""
+    return side == other or fixed(side) == fixed(other)
+
+
 def goes_on(tile, other):
     """Whether the other tile can stand to the right of a tile."""
-    return tile[0] == other[0] and fixed(tile[4]) == fixed(other[2])
+    return tile[0] == other[0] and are_one(tile[4], other[2])
 
 
 def hangs_on(above, tile):
     """Whether a tile can stand below another one."""
-    return fixed(above[3]) == fixed(tile[1])
+    return are_one(above[3], tile[1])
 
 
 def closes(row):
     """Whether the right of the last tile of a row is the left of its first one."""
-    return fixed(row[-1][4]) == fixed(row[0][2])
+    return are_one(row[-1][4], row[0][2])
 
 
 def first_clash(machine, block):
@@ -139,9 +144,14 @@ def offs_of(machine, block):
     return tuple([off_of(row) for row in block])
 
 
-def is_round(machine, block):
-    """Whether a block that fits comes round."""
-    want_fit(machine, block)
+def comes_round(block):
+    """Whether a block that fits comes round sideways and down."""
     if not all([closes(row) for row in block]):
         return False
     return all([hangs_on(last, first) for last, first in zip(block[-1], block[0])])
+
+
+def is_round(machine, block):
+    """Whether a block that fits comes round."""
+    want_fit(machine, block)
+    return comes_round(block)

@@ -31,8 +31,7 @@ def take_machine(items):
             raise BadText(0, items.at)
         items.take_sign("/")
         piece = take_piece(items, wide)
-        if piece in pieces:
-            # Only a whole piece shows that it is told twice, so its last item is the one that is off.
-            raise BadText(0, items.at - 1)
+        # Only a whole piece shows that it is told twice, so its last item is the one that is off.
+        items.want_whole(piece not in pieces)
         pieces.append(piece)
     return wide, pieces

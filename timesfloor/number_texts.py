@@ -5,6 +5,7 @@ from timesfloor.exact import parts_of
 from timesfloor.numbers import is_number, want_number
 
 MOST_DIGITS = 140
+CHUNK = 10 ** 64
 
 
 def integer_in(word):
@@ -26,11 +27,22 @@ def number_in(word):
     return pair if is_number(pair) else None
 
 
+def integer_text(value):
+    """The text of an integer, however long: Python itself refuses to write very long ones at once."""
+    left = abs(value)
+    words = []
+    while left >= CHUNK:
+        left, low = divmod(left, CHUNK)
+        words.append(f"{low:064d}")
+    sign = "-" if value < 0 else ""
+    return sign + str(left) + "".join(words[::-1])
+
+
 def number_text(number):
     """The text of a number."""
     want_number(number, "number")
     above, under = parts_of(number)
-    return str(above) if under == 1 else f"{above}/{under}"
+    return integer_text(above) if under == 1 else f"{integer_text(above)}/{integer_text(under)}"
 
 
 def number_of(text):
