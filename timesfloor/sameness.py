@@ -4,7 +4,11 @@ from timesfloor.checks import is_integer
 
 
 def is_same(value, told):
-    """Whether a value is what is told, tuples of integers all the way in; True and False are no integers."""
+    """Whether a value is what is told: integers, strings, None, tuples of such; True and False are no integers."""
+    if told is None:
+        return value is None
+    if isinstance(told, str):
+        return isinstance(value, str) and value == told
     if not isinstance(told, tuple):
         return is_integer(value) and value == told
     if not isinstance(value, tuple) or len(value) != len(told):
