@@ -124,6 +124,12 @@ class FormTest(Case):
                 self.assertLessEqual({alias.name for alias in node.names}, known, node.module)
         self.check_each(check)
 
+    def test_imports_are_used(self):
+        def check(source, tree):
+            used = {node.id for node in ast.walk(tree) if isinstance(node, ast.Name)}
+            self.assertLessEqual({alias.name for node in imports_of(tree) for alias in node.names}, used)
+        self.check_each(check)
+
     def test_no_circles(self):
         above = {name[:-3]: [node.module.partition(".")[2] for node in imports_of(tree)
                              if node.module.startswith("timesfloor")] for name, _, tree in trees()}

@@ -4,7 +4,6 @@ from random import Random
 
 from timesfloor import floors, machines, pictures, tiles
 from timesfloor.errors import BadText
-from timesfloor.floors import block_of
 from timesfloor.machines import Machine, line_machine
 from timesfloor.pictures import picture, tile_of, tile_text
 from timesfloor.tiles import is_tile, tile_at, tiles_of

@@ -15,7 +15,7 @@ from timesfloor.runs import judged_run
 
 from tests.examples_rounds import ROUNDS
 from tests.helpers import Case
-from tests.machines_made import formed, is_held, nested_lists, some_piece, where_led, worth
+from tests.machines_made import formed, is_held, nested_lists, where_led, worth
 from tests.test_bands import JUST, MORE, TWICE, small_ways
 from tests.test_runs import OFF_POINTS, OFF_WAYS
 from tests.test_tiles import MANY, NO_MACHINES

@@ -1,6 +1,6 @@
 """Columns of tiles, one below another by a way; whether there are too many is told ahead of making them."""
 
-from timesfloor.sides import Tiling, many_below, many_with, tiles_below, tiles_with, tops_of
+from timesfloor.sides import many_below, many_with, tiles_below, tiles_with, tops_of
 
 MOST_COLUMNS = 4000
 

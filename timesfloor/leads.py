@@ -6,7 +6,7 @@ from timesfloor.exact import added, made, parts_of, whole_part
 from timesfloor.machines import Machine
 from timesfloor.pieces import piece_holds
 from timesfloor.programs import want_program
-from timesfloor.wants import is_point, want_within
+from timesfloor.wants import is_point
 
 MOST_CONTENTS = 200
 NOUGHT_HEIGHT = 3
